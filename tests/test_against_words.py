@@ -1,0 +1,74 @@
+"""Many lines of calls, each compared with the document's words written a second time."""
+
+import random
+import unittest
+
+from tests.asking import told_apart
+from tests.words import Line
+from tonetables.picture import answers
+
+ROWS = (0, 1)
+EDGES = (0, 1, 2, 254, 255, 255, 256, 257, 499, 500, 4294967295)
+
+
+def some_tones(chance):
+    width = chance.choice((1, 3, 20, 256))
+    low = chance.randrange(257 - width)
+    return [low + chance.randrange(width) for k in range(chance.choice((0, 1, 2, 5, 40, 256)))]
+
+
+def some_points(chance):
+    tones = sorted(chance.sample(range(256), chance.choice((1, 2, 3, 10, 256))))
+    return [number for tone in tones for number in (tone, chance.randrange(256))]
+
+
+def some_row(chance, call):
+    if call == 0:
+        row = some_tones(chance)
+    elif call == 1:
+        row = some_points(chance)
+    elif call == 2:
+        row = sorted(chance.sample(range(256), 2)) + [chance.randrange(256), chance.randrange(256)]
+    elif call == 4:
+        row = [chance.randrange(2, 257)]
+    elif call == 5:
+        row = [chance.randrange(256)]
+    elif call == 7:
+        row = [chance.randrange(500)]
+    else:
+        row = []
+    return spoiled(chance, call, row) if chance.random() < 0.2 else row
+
+
+def spoiled(chance, call, row):
+    """Now and then a number, or how many there are, is not as told."""
+    row = list(row)
+    if row:
+        row[chance.randrange(len(row))] = chance.choice(EDGES)
+    if call in ROWS and chance.random() < 0.3:
+        row = row + [chance.choice(EDGES) for k in range(chance.randrange(4))]
+    return row
+
+
+class AgainstWords(unittest.TestCase):
+    def line(self, chance):
+        model = Line()
+        calls = []
+        expected = []
+        for k in range(chance.randrange(1, 41)):
+            call = chance.choice((0, 1, 2, 3, 4, 5, 6, 6, 7, 7)) if k else chance.choice((0, 0, 0, 1, 6))
+            # Rarely a new picture, so that lines get to 12 tables.
+            if call == 0 and k and chance.random() < 0.7:
+                call = 3
+            row = some_row(chance, call)
+            calls.append(call)
+            if call in ROWS:
+                calls.append(len(row))
+            calls.extend(row)
+            expected.append([model.answer(call, row)])
+        self.assertEqual(told_apart(answers(calls)), expected, calls)
+
+    def test_many_lines(self):
+        chance = random.Random(1)
+        for k in range(150):
+            self.line(chance)

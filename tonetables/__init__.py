@@ -1,0 +1,1 @@
+"""Tones: a picture's tones made others, by tables that stand one behind another."""
