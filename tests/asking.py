@@ -37,9 +37,37 @@ def stretch(m):
     return [7, m]
 
 
-def any_table(table):
+def like(*tones):
+    return [8, len(tones), *tones]
+
+
+def undo():
+    return [9]
+
+
+def table():
+    return [10]
+
+
+def now():
+    return [11]
+
+
+def counts():
+    return [12]
+
+
+def back():
+    return [13]
+
+
+def told():
+    return [14]
+
+
+def any_table(made):
     """A curve through all 256 tones: it can be any table."""
-    return curve(*[number for point in enumerate(table) for number in point])
+    return curve(*[number for point in enumerate(made) for number in point])
 
 
 def told_apart(given):
@@ -56,9 +84,23 @@ def told_apart(given):
     return parts
 
 
-def ask(*calls):
-    """One number for each call: no call here answers more."""
+def replies(*calls):
+    """One list of numbers for each call."""
+    if not 1 <= len(calls) <= 40:
+        raise AssertionError("a line has 1 to 40 calls")
     parts = told_apart(answers([number for call in calls for number in call]))
+    if len(parts) != len(calls):
+        raise AssertionError(f"{len(parts)} answers to {len(calls)} calls")
+    return parts
+
+
+def reply(*calls):
+    return replies(*calls)[-1]
+
+
+def ask(*calls):
+    """One number for each call: for calls that answer no more."""
+    parts = replies(*calls)
     if [len(part) for part in parts] != [1] * len(calls):
         raise AssertionError(f"not one number for each call: {parts}")
     return [part[0] for part in parts]
@@ -68,12 +110,11 @@ def last(*calls):
     return ask(*calls)[-1]
 
 
-def makes(*calls):
-    """Which tones the whole table makes, found by answers alone.
+def whole(*calls):
+    """The whole table behind the calls."""
+    return reply(*calls, table())
 
-    A last table marks one tone: if the others make it among more, two tones are left.
-    """
-    if last(*calls) == 1:
-        raise AssertionError("a whole table of one tone can't be told from another")
-    return [x for x in range(256)
-            if last(*calls, any_table([255 if v == x else 0 for v in range(256)])) == 2]
+
+def makes(*calls):
+    """Which tones the whole table makes, the least first."""
+    return sorted(set(whole(*calls)))

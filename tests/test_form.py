@@ -45,5 +45,5 @@ class FormOfThePackage(unittest.TestCase):
     def test_prints_nothing(self):
         said = io.StringIO()
         with contextlib.redirect_stdout(said), contextlib.redirect_stderr(said):
-            answers([0, 2, 1, 2, 6, 7, 3, 3, 5, 300])
+            answers([0, 2, 1, 2, 6, 7, 3, 3, 5, 300, 8, 1, 9, 10, 11, 12, 13, 14, 9, 9, 9, 9, 9])
         self.assertEqual(said.getvalue(), "")

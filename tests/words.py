@@ -1,5 +1,6 @@
 """The document's words, written down a second time by fractions, to compare with."""
 
+from collections import Counter
 from fractions import Fraction
 from math import floor
 
@@ -44,17 +45,44 @@ def stretch(tones, m):
     return [curve([low, 0, high, 255], v) if low < high else v for v in range(256)]
 
 
+def like(tones, other):
+    shares = [Fraction(sum(tone <= x for tone in other), len(other)) for x in range(256)]
+    least = {}
+    table = []
+    for v in range(256):
+        u = sum(tone <= v for tone in tones)
+        if u not in least:
+            share = Fraction(u, len(tones))
+            least[u] = next(x for x in range(256) if not share > shares[x])
+        table.append(least[u])
+    return table
+
+
+def taken_back(table):
+    return [min(range(256), key=lambda x: (abs(table[x] - y), x)) for y in range(256)]
+
+
 class Line:
     """One line's calls: each is its number, and its whole numbers or its row as one list."""
 
     def __init__(self):
         self.tones = []
-        self.whole = list(range(256))
-        self.count = 0
+        self.tables = []
+
+    def become(self, tone):
+        for table in self.tables:
+            tone = table[tone]
+        return tone
+
+    def whole(self):
+        return [self.become(tone) for tone in range(256)]
+
+    def now(self):
+        return [self.become(tone) for tone in self.tones]
 
     def refusal(self, call, row):
         high = any(number > 255 for number in row)
-        full = (self.count == 12, -1)
+        full = (len(self.tables) == 12, -1)
         none = (not self.tones, -4)
         rules = {
             0: lambda: [(len(row) > 256, -1), (high, -2)],
@@ -66,15 +94,18 @@ class Line:
             5: lambda: [(high, -2), full],
             6: lambda: [none, full],
             7: lambda: [(row[0] > 499, -2), none, full],
+            8: lambda: [(not row, -1), (len(row) > 256, -1), (high, -2), none, full],
+            9: lambda: [(not self.tables, -4)],
         }
-        return next((number for holds, number in rules[call]() if holds), 0)
+        return next((number for holds, number in rules.get(call, list)() if holds), 0)
 
     def table(self, call, row):
-        now = [self.whole[tone] for tone in self.tones]
         if call == 6:
-            return even(now)
+            return even(self.now())
         if call == 7:
-            return stretch(now, row[0])
+            return stretch(self.now(), row[0])
+        if call == 8:
+            return like(self.now(), row)
         rules = {
             1: lambda v: curve(row, v),
             2: lambda v: curve([row[0], row[2], row[1], row[3]], v),
@@ -84,15 +115,34 @@ class Line:
         }
         return [rules[call](v) for v in range(256)]
 
+    def counts(self):
+        often = sorted(Counter(self.now()).items())
+        return [len(often), *[number for pair in often for number in pair]]
+
+    def told(self):
+        whole = self.whole()
+        ends = [min(self.now()), max(self.now())] if self.tones else []
+        return [int(whole == sorted(whole)), len(set(whole)), *ends]
+
     def answer(self, call, row):
         refusal = self.refusal(call, row)
         if refusal:
-            return refusal
+            return [refusal]
+        asking = {
+            10: self.whole,
+            11: lambda: [len(self.tones), *self.now()],
+            12: self.counts,
+            13: lambda: taken_back(self.whole()),
+            14: self.told,
+        }
+        if call in asking:
+            return asking[call]()
         if call == 0:
-            self.__init__()
             self.tones = list(row)
-            return len(row)
-        table = self.table(call, row)
-        self.whole = [table[tone] for tone in self.whole]
-        self.count += 1
-        return len(set(self.whole))
+            self.tables = []
+            return [len(row)]
+        if call == 9:
+            self.tables = self.tables[:-1]
+            return [len(self.tables)]
+        self.tables = [*self.tables, self.table(call, row)]
+        return [len(set(self.whole()))]

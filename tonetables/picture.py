@@ -14,12 +14,19 @@ STEPS = 4
 CUT = 5
 EVEN = 6
 STRETCH = 7
+LIKE = 8
+UNDO = 9
+TABLE = 10
+NOW = 11
+COUNTS = 12
+BACK = 13
+TOLD = 14
 
-# By the call's number. Picture and curve have a row in place of whole numbers.
-WHOLE_NUMBERS = (0, 0, 4, 0, 1, 1, 0, 1)
+# By the call's number. The calls with a row have no whole numbers beside it.
+WHOLE_NUMBERS = (0, 0, 4, 0, 1, 1, 0, 1, 0, 0, 0, 0, 0, 0, 0)
 
 NO_REFUSAL = 0
-TOO_MANY = -1
+WRONG_COUNT = -1
 OUT_OF_BOUNDS = -2
 WRONG_POINTS = -3
 NOTHING_THERE = -4
@@ -120,6 +127,26 @@ def stretch_table(tones, m):
     return unchanged_table()
 
 
+def like_table(tones, other):
+    # Both sides times n and o: u / n isn't more than z / o, without a fraction.
+    reached = [how_many_up_to(other, x) * len(tones) for x in range(TONES)]
+    return [least_reaching(reached, how_many_up_to(tones, v) * len(other)) for v in range(TONES)]
+
+
+def least_reaching(reached, bound):
+    return min([x for x in range(TONES) if bound <= reached[x]])
+
+
+def taken_back(table):
+    return [least_nearest(table, y) for y in range(TONES)]
+
+
+def least_nearest(table, y):
+    """The least tone whose tone by the table is nearest to y."""
+    ways = [abs(made - y) for made in table]
+    return ways.index(min(ways))
+
+
 def one_above_tones(numbers):
     return any([number > GREATEST_TONE for number in numbers])
 
@@ -128,9 +155,17 @@ def rise(tones):
     return all([tones[k - 1] < tones[k] for k in range(1, len(tones))])
 
 
+def never_falls(table):
+    return all([table[v - 1] <= table[v] for v in range(1, len(table))])
+
+
+def how_many_different(tones):
+    return len(set(tones))
+
+
 def picture_refusal(tones):
     if len(tones) > MOST_PICTURE_TONES:
-        return TOO_MANY
+        return WRONG_COUNT
     if one_above_tones(tones):
         return OUT_OF_BOUNDS
     return NO_REFUSAL
@@ -166,7 +201,7 @@ def cut_refusal(t):
     return NO_REFUSAL
 
 
-def even_refusal(tones):
+def empty_refusal(tones):
     if len(tones) == 0:
         return NOTHING_THERE
     return NO_REFUSAL
@@ -175,9 +210,17 @@ def even_refusal(tones):
 def stretch_refusal(tones, m):
     if m > MOST_STRETCH:
         return OUT_OF_BOUNDS
-    if len(tones) == 0:
-        return NOTHING_THERE
-    return NO_REFUSAL
+    return empty_refusal(tones)
+
+
+def like_refusal(tones, other):
+    if len(other) == 0:
+        return WRONG_COUNT
+    # What is asked of the other list is then what is asked of a picture's.
+    refusal = picture_refusal(other)
+    if refusal != NO_REFUSAL:
+        return refusal
+    return empty_refusal(tones)
 
 
 def table_refusal(call, numbers, tones):
@@ -191,9 +234,11 @@ def table_refusal(call, numbers, tones):
     if call == CUT:
         return cut_refusal(numbers[0])
     if call == EVEN:
-        return even_refusal(tones)
+        return empty_refusal(tones)
     if call == STRETCH:
         return stretch_refusal(tones, numbers[0])
+    if call == LIKE:
+        return like_refusal(tones, numbers)
     return NO_REFUSAL
 
 
@@ -211,6 +256,8 @@ def table_of(call, numbers, tones):
         return even_table(tones)
     if call == STRETCH:
         return stretch_table(tones, numbers[0])
+    if call == LIKE:
+        return like_table(tones, numbers)
     return turn_table()
 
 
@@ -228,27 +275,70 @@ def add_table(picture, call, numbers):
     if refusal != NO_REFUSAL:
         return refusal
     if len(picture.tables) >= MOST_TABLES:
-        return TOO_MANY
+        return WRONG_COUNT
     picture.tables.append(table_of(call, numbers, picture.tones_now()))
-    return len(set(picture.whole_table()))
+    return how_many_different(picture.whole_table())
+
+
+def undo_table(picture):
+    if len(picture.tables) == 0:
+        return NOTHING_THERE
+    picture.tables.pop()
+    return len(picture.tables)
+
+
+def now_answer(tones):
+    return [len(tones)] + tones
+
+
+def counts_answer(tones):
+    answer = [how_many_different(tones)]
+    for tone in sorted(set(tones)):
+        answer.append(tone)
+        answer.append(tones.count(tone))
+    return answer
+
+
+def told_answer(table, tones):
+    answer = [1 if never_falls(table) else 0, how_many_different(table)]
+    if len(tones) > 0:
+        answer.append(min(tones))
+        answer.append(max(tones))
+    return answer
 
 
 def answer_of(picture, call, numbers):
     if call == PICTURE:
         return [take_picture(picture, numbers)]
+    if call == UNDO:
+        return [undo_table(picture)]
+    if call == TABLE:
+        return picture.whole_table()
+    if call == NOW:
+        return now_answer(picture.tones_now())
+    if call == COUNTS:
+        return counts_answer(picture.tones_now())
+    if call == BACK:
+        return taken_back(picture.whole_table())
+    if call == TOLD:
+        return told_answer(picture.whole_table(), picture.tones_now())
     return [add_table(picture, call, numbers)]
+
+
+def has_row(call):
+    return call in (PICTURE, CURVE, LIKE)
 
 
 def numbers_start(calls, place):
     """Where the numbers begin of the call that stands at place."""
-    if calls[place] in (PICTURE, CURVE):
+    if has_row(calls[place]):
         return place + 2
     return place + 1
 
 
 def numbers_end(calls, place):
     """Where the call that stands at place ends, and the next one begins."""
-    if calls[place] in (PICTURE, CURVE):
+    if has_row(calls[place]):
         return place + 2 + calls[place + 1]
     return place + 1 + WHOLE_NUMBERS[calls[place]]
 
